@@ -132,7 +132,7 @@ func wantTouches(l []api.Slot, old []api.Touch) ([]api.Touch, api.Errno) {
 		if !is {
 			continue
 		}
-		if was, is := find(old, p); is {
+		if was, is := find(old, p); is && touch.Check(t) == api.OK {
 			for i, now := range t.Points {
 				for _, before := range was.Points {
 					if now.ID == before.ID {
@@ -643,6 +643,41 @@ func TestP18_3TouchesKeep(t *testing.T) {
 	// What the old ones tell of does not make a touch.
 	isTouches(t, slots(free(0), free(9)), []api.Touch{old}, nil, api.OK)
 	isTouches(t, nil, []api.Touch{old}, nil, api.OK)
+}
+
+// deep are two of the greatest parts, in such places that rounding makes their touch deeper than touch.Check lets any be.
+func deep() (api.Body, api.Body) {
+	pill := thing(api.Fixed, 0, 0, part(pill(0x1p40, 3.938972528580984e+11, 1.0791179944454739e+12, -1.454778705193929e+11, -1.0783824988921661e+12)))
+	return pill, thing(api.Free, 0, 0, part(disc(0x1p40, -1.3944422693673132e+11, -1.0542479245634475e+12)))
+}
+
+// A touch that is too deep is told as it is, without what was: touch.Keep has nothing to make of it. No other one is touched by that.
+func TestP18_3TouchesDeep(t *testing.T) {
+	a, b := deep()
+	aside := free(1.5)
+	aside.Parts[0].Layer, aside.Parts[0].Mask = 2, 2
+	second := bodyCopy(aside)
+	second.Frame.At.X = 0
+	for _, l := range [][]api.Slot{slots(aside, a, b, second), slots(aside, b, a, second)} {
+		now, e := pairs.Touches(l, nil)
+		isErr(t, e, api.OK, "Touches")
+		if len(now) != 2 || now[0].Pair != pair(0, 0, 3, 0) || now[1].Pair != pair(1, 0, 2, 0) || len(now[1].Points) != 3 {
+			t.Fatalf("Touches tells %v", now)
+		}
+		isErr(t, touch.Check(now[1]), api.ErrArg, "Check")
+		isEvents(t, nil, now, nil, api.ErrArg)
+		old := touchesCopy(now)
+		for i := range old {
+			for k := range old[i].Points {
+				p := &old[i].Points[k]
+				p.Depth, p.Push, p.Drag = 1, 2, 3
+			}
+		}
+		want := touchesCopy(now)
+		want[0].Points[0].Push, want[0].Points[0].Drag = 2, 3
+		isTouches(t, l, old, want, api.OK)
+		isTouches(t, l, old[1:], now, api.OK)
+	}
 }
 
 // badTouches are such as touch.Check refuses.

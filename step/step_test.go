@@ -416,6 +416,57 @@ func TestP25_3Touches(t *testing.T) {
 	}
 }
 
+// deep are two of the greatest parts, in such places that rounding makes their touch deeper than touches may be.
+func deep() (api.Slot, api.Slot) {
+	a, b := thing(api.Fixed, 0, 0, pill(0x1p40, 0)), thing(api.Free, 0, 0, disc(0x1p40))
+	a.Body.Parts[0].Shape.Points = []api.Vec{v(3.938972528580984e+11, 1.0791179944454739e+12), v(-1.454778705193929e+11, -1.0783824988921661e+12)}
+	b.Body.Parts[0].Shape.Points[0] = v(-1.3944422693673132e+11, -1.0542479245634475e+12)
+	return a, b
+}
+
+// apart is a body that meets none but others like it.
+func apart(s api.Slot) api.Slot {
+	s.Body.Parts[0].Layer, s.Body.Parts[0].Mask = 2, 2
+	return s
+}
+
+// TestP25_3Deep: a touch that is too deep for Events is none for a step. It is told as it is, and asks nothing; no events of touches are told then, all others are; only the state behind it may not be.
+func TestP25_3Deep(t *testing.T) {
+	a, b := deep()
+	driver := apart(moved(3, 1.5, v(1, 0)))
+	asleep := apart(free(3, 0))
+	asleep.Body.Asleep, asleep.Body.Calm = true, 7
+	wild := apart(free(9, 9))
+	wild.Body.Force, wild.Body.Parts[0].Density = v(0x1p1023, 0), 0x1p-20
+	for _, w := range []api.State{world(a, b, asleep, driver, wild), world(b, a, asleep, driver, wild)} {
+		ended, old := touchOf(1, 4), touchOf(0, 1)
+		old.Points[0].Push, old.Points[0].Drag = 2, 3
+		for _, touches := range [][]api.Touch{nil, {ended}, {old}, {old, ended}} {
+			w.Touches = touches
+			isErr(t, step.Check(w), api.OK, "Check")
+			next := isStep(t, w, counts{})
+			_, told := one(t, w)
+			isTold(t, told, event(4, 2), event(5, 4))
+			if len(next.Touches) != 2 || next.Touches[0].Pair != (api.Pair{B: 1}) || len(next.Touches[0].Points) != 3 {
+				t.Fatalf("the touches are %v", next.Touches)
+			}
+			for _, p := range next.Touches[0].Points {
+				if p.Push != 0 || p.Drag != 0 {
+					t.Errorf("the point %v was pushed", p)
+				}
+			}
+			again, e := step.Run(w, 1)
+			if e != api.OK || !sameState(again, next) {
+				t.Errorf("Run tells %d, %v", e, again)
+			}
+			isErr(t, step.Check(next), api.ErrArg, "Check of the state behind")
+			if again, e = step.Run(w, 2); e != api.ErrArg || text(again) != text(api.State{}) {
+				t.Errorf("Run of 2 steps tells %d, %v", e, again)
+			}
+		}
+	}
+}
+
 // TestP25_3Waking: an island of which a body is awake is awake as a whole in this step already.
 func TestP25_3Waking(t *testing.T) {
 	sleeping := func() api.State {
