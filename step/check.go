@@ -5,13 +5,11 @@ import (
 	"tumble/body"
 	"tumble/joint"
 	"tumble/pairs"
+	"tumble/stride"
 )
 
-// Counts that may be great are held against numbers of 64 bits on all machines, unlike an int.
-const (
-	maxTick int64 = 1 << 53
-	maxCalm int64 = 1 << 53
-)
+// maxCalm is 64 bits wide on all machines, unlike an int.
+const maxCalm int64 = 1 << 53
 
 // isFrom tells whether a float is a number from low to high; what is no number passes no comparison.
 func isFrom(low, f, high float64) bool { return low <= f && f <= high }
@@ -143,7 +141,7 @@ func Check(w api.State) api.Errno {
 	if e := checkTouches(w); e != api.OK {
 		return e
 	}
-	if tick := int64(w.Tick); tick < 0 || tick > maxTick {
+	if tick := int64(w.Tick); tick < 0 || tick > stride.MaxTick {
 		return api.ErrWorld
 	}
 	return api.OK
